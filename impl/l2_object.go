@@ -48,17 +48,11 @@ type turnCheck func(shape GateShape, old GateObject, o GateObject) error
 
 // GateFill fills the values that are not set.
 func GateFill(shapes []GateShape, o GateObject) GateObject {
-	filled := copyObject(o)
 	shape, found := shapeOf(shapes, o.Kind)
 	if !found || !GateShapesOk(shapes) || len(o.Values) != len(shape.Fields) {
-		return filled
+		return copyObject(o)
 	}
-	for i, f := range shape.Fields {
-		if filled.Values[i] == "" {
-			filled.Values[i] = f.Default
-		}
-	}
-	return filled
+	return filled(shape, o)
 }
 
 // GateCheck is what is wrong with an object: a code, and the place of a field.
@@ -75,6 +69,17 @@ func GateTurned(shapes []GateShape, old GateObject, o GateObject) (int, int) {
 		return faultWhole, 0
 	}
 	return toldBy(turnError(shapes, old, o))
+}
+
+// filled is the object with what is not set filled; it has the values of the shape.
+func filled(shape GateShape, o GateObject) GateObject {
+	out := copyObject(o)
+	for i, f := range shape.Fields {
+		if out.Values[i] == "" {
+			out.Values[i] = f.Default
+		}
+	}
+	return out
 }
 
 // toldBy is the code and the place that an error keeps.
