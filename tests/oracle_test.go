@@ -127,6 +127,9 @@ func saidFill(shapes []impl.GateShape, o impl.GateObject) impl.GateObject {
 	return o
 }
 
+// odds is made once, as some of its texts are long.
+var odds = oddTexts()
+
 // chance deals inputs that are mostly ok, and odd here and there.
 type chance struct{ *rand.Rand }
 
@@ -134,8 +137,7 @@ func (c chance) oneIn(n int) bool { return c.Intn(n) == 0 }
 
 func (c chance) text(from ...string) string {
 	if c.oneIn(60) {
-		odd := oddTexts()
-		return odd[c.Intn(len(odd))]
+		return odds[c.Intn(len(odds))]
 	}
 	return from[c.Intn(len(from))]
 }
