@@ -45,7 +45,8 @@ func saidUsed(l impl.GateLaw, b impl.GateBook, team, resource string) int {
 func saidShaped(l impl.GateLaw, o impl.GateObject) impl.GateObject {
 	for _, s := range l.Shapes {
 		if s.Kind == o.Kind && len(s.Fields) == len(o.Values) {
-			return saidMended(s, l.Mends, saidFill(l.Shapes, o), rowsOf(s, l.Mends)[0])
+			row, _ := firstRow(s, l.Mends)
+			return saidMended(s, l.Mends, saidFill(l.Shapes, o), row)
 		}
 	}
 	return o

@@ -1,6 +1,7 @@
 package tests
 
 import (
+	"iter"
 	"math/rand"
 	"slices"
 	"strconv"
@@ -11,36 +12,47 @@ import (
 
 // The document's words of chapter 3 a second time: all rows are tried, one after the other.
 
-// rowsOf is every order of the places of a shape's fields in which, of each mend of the shape's kind, When and From stand ahead of Field.
-func rowsOf(s impl.GateShape, mends []impl.GateMend) [][]int {
-	ahead := func(row []int, name string, field string) bool {
-		at := func(name string) int {
-			return slices.IndexFunc(row, func(place int) bool { return s.Fields[place].Name == name })
+// rowsOf goes over every order of the places of a shape's fields in which, of each mend of the shape's kind, When and From stand ahead of Field.
+func rowsOf(s impl.GateShape, mends []impl.GateMend) iter.Seq[[]int] {
+	return func(yield func([]int) bool) {
+		for row := range ordersOf(len(s.Fields)) {
+			ahead := func(name, field string) bool {
+				at := func(name string) int {
+					return slices.IndexFunc(row, func(place int) bool { return s.Fields[place].Name == name })
+				}
+				return name == "" || at(name) < at(field)
+			}
+			if !slices.ContainsFunc(mends, func(m impl.GateMend) bool {
+				return m.Kind == s.Kind && !(ahead(m.When, m.Field) && ahead(m.From, m.Field))
+			}) && !yield(row) {
+				return
+			}
 		}
-		return name == "" || at(name) < at(field)
 	}
-	var rows [][]int
-	for _, row := range ordersOf(len(s.Fields)) {
-		if !slices.ContainsFunc(mends, func(m impl.GateMend) bool {
-			return m.Kind == s.Kind && !(ahead(row, m.When, m.Field) && ahead(row, m.From, m.Field))
-		}) {
-			rows = append(rows, row)
-		}
-	}
-	return rows
 }
 
-func ordersOf(n int) [][]int {
-	if n == 0 {
-		return [][]int{nil}
+// firstRow is one of the rows, and whether there is one.
+func firstRow(s impl.GateShape, mends []impl.GateMend) ([]int, bool) {
+	for row := range rowsOf(s, mends) {
+		return row, true
 	}
-	var out [][]int
-	for _, row := range ordersOf(n - 1) {
-		for at := range n {
-			out = append(out, slices.Insert(slices.Clone(row), at, n-1))
+	return nil, false
+}
+
+func ordersOf(n int) iter.Seq[[]int] {
+	return func(yield func([]int) bool) {
+		if n == 0 {
+			yield(nil)
+			return
+		}
+		for row := range ordersOf(n - 1) {
+			for at := range n {
+				if !yield(slices.Insert(slices.Clone(row), at, n-1)) {
+					return
+				}
+			}
 		}
 	}
-	return out
 }
 
 func saidMendOk(shapes []impl.GateShape, m impl.GateMend) bool {
@@ -72,7 +84,10 @@ func saidMendsOk(shapes []impl.GateShape, mends []impl.GateMend) bool {
 			return false
 		}
 	}
-	return !slices.ContainsFunc(shapes, func(s impl.GateShape) bool { return len(rowsOf(s, mends)) == 0 })
+	return !slices.ContainsFunc(shapes, func(s impl.GateShape) bool {
+		_, found := firstRow(s, mends)
+		return !found
+	})
 }
 
 // saidDecided is what a field's deciding mend gives, by these values, and whether there is one.
@@ -214,7 +229,7 @@ func TestMendsAsSaid(t *testing.T) {
 func holdPromiseOne(t *testing.T, s impl.GateShape, shapes []impl.GateShape, mends []impl.GateMend, o impl.GateObject, seen map[string]int) {
 	t.Helper()
 	got := impl.GateMended(shapes, mends, o)
-	rows := rowsOf(s, mends)
+	rows := slices.Collect(rowsOf(s, mends))
 	for _, row := range rows {
 		if want := saidMended(s, mends, o, row); !sameObject(got, want) {
 			t.Fatalf("GateMended %q, not %q by the row %v: %+v by %+v of %+v", got.Values, want.Values, row, o, mends, shapes)
