@@ -162,14 +162,17 @@ func (c saidCase) fieldsOf(o impl.GateObject) []impl.GateField {
 	return nil
 }
 
-// isLoose says whether the value at a place is a link that is set, is new, and names nothing or what is Ending.
+// isNewLink says whether the value at a place is a link that is set, and to something else than before.
+func (c saidCase) isNewLink(i int) bool {
+	value := c.made.Values[i]
+	return c.fieldsOf(c.made)[i].Kind == 4 && value != "" && (len(c.old.Values) == 0 || c.old.Values[i] != value)
+}
+
+// isLoose says whether the value at a place is a new link that names nothing or what is Ending.
 func (c saidCase) isLoose(i int) bool {
 	value := c.made.Values[i]
 	f := c.fieldsOf(c.made)[i]
-	if f.Kind != 4 || value == "" || len(c.old.Values) > 0 && c.old.Values[i] == value {
-		return false
-	}
-	return !slices.ContainsFunc(c.book.Objects, func(o impl.GateObject) bool { return o.Kind == f.To && o.Name == value && !o.Ending })
+	return c.isNewLink(i) && !slices.ContainsFunc(c.book.Objects, func(o impl.GateObject) bool { return o.Kind == f.To && o.Name == value && !o.Ending })
 }
 
 func (c saidCase) more(g impl.GateLedger) int {
