@@ -302,6 +302,7 @@ func (c chance) unsettle(b *impl.GateBook) {
 }
 
 func TestBooksAsSaid(t *testing.T) {
+	t.Parallel()
 	c := chance{rand.New(rand.NewSource(7))}
 	seen := map[string]int{}
 	for range 6000 {

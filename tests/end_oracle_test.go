@@ -210,6 +210,7 @@ func (c chance) drawnEnds() (impl.GateLaw, impl.GateBook) {
 }
 
 func TestEndsAsSaid(t *testing.T) {
+	t.Parallel()
 	c := chance{rand.New(rand.NewSource(10))}
 	seen := map[string]int{}
 	for range 10000 {
@@ -259,6 +260,7 @@ func holdPlaces(t *testing.T, what string, b impl.GateBook, got, want []int) {
 
 // Promises 7, 8 and 9: small books, whose doomed ones the words tell, and great ones.
 func TestRowsOfSweeps(t *testing.T) {
+	t.Parallel()
 	c := chance{rand.New(rand.NewSource(11))}
 	seen := map[string]int{}
 	for n := range 6000 {
@@ -369,6 +371,7 @@ func holdEnds(t *testing.T, l impl.GateLaw, b, last impl.GateBook, doomed []int)
 
 // Sweeps between other things: holds that are taken out, objects that are ended, draws and ticks. All that is in the book stays linked and within its bounds.
 func TestSweepsBetweenOtherThings(t *testing.T) {
+	t.Parallel()
 	c := chance{rand.New(rand.NewSource(12))}
 	seen := map[string]int{}
 	for range 150 {

@@ -59,8 +59,32 @@ func wholeText(values ...any) string {
 	return out.String()
 }
 
+// same is plainText held against plainText, without writing it out.
 func same[T any](a, b T) bool {
-	return plainText(a) == plainText(b)
+	return alike(reflect.ValueOf(a), reflect.ValueOf(b))
+}
+
+func alike(a, b reflect.Value) bool {
+	switch a.Kind() {
+	case reflect.Struct:
+		for i := range a.NumField() {
+			if !alike(a.Field(i), b.Field(i)) {
+				return false
+			}
+		}
+		return true
+	case reflect.Slice:
+		if a.Len() != b.Len() {
+			return false
+		}
+		for i := range a.Len() {
+			if !alike(a.Index(i), b.Index(i)) {
+				return false
+			}
+		}
+		return true
+	}
+	return a.Equal(b)
 }
 
 // withRoom is a copy of a value in which each list has marked room behind its end.

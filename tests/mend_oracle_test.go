@@ -192,6 +192,7 @@ func (c chance) mends(shapes []impl.GateShape) []impl.GateMend {
 }
 
 func TestMendsAsSaid(t *testing.T) {
+	t.Parallel()
 	c := chance{rand.New(rand.NewSource(3))}
 	seen := map[string]int{}
 	for n := range 25000 {

@@ -225,6 +225,7 @@ func (c chance) object(shapes []impl.GateShape) impl.GateObject {
 }
 
 func TestShapesAndObjectsAsSaid(t *testing.T) {
+	t.Parallel()
 	c := chance{rand.New(rand.NewSource(1))}
 	seen := map[string]int{}
 	for range 60000 {

@@ -435,6 +435,7 @@ func resourcesOf(l impl.GateLaw) []string {
 }
 
 func TestPassesAsSaid(t *testing.T) {
+	t.Parallel()
 	c := chance{rand.New(rand.NewSource(13))}
 	seen := map[string]int{}
 	for range 1200 {
@@ -522,6 +523,7 @@ func countWeights(b, got impl.GateBook, seen map[string]int) {
 
 // Promise 12: a change to the values that an object has changes nothing but its version and Now.
 func TestPassTwice(t *testing.T) {
+	t.Parallel()
 	c := chance{rand.New(rand.NewSource(14))}
 	seen := map[string]int{}
 	for range 1500 {

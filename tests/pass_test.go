@@ -209,14 +209,19 @@ func tryPasses(t *testing.T, l impl.GateLaw, b impl.GateBook, cases []passCase) 
 }
 
 func lineChanges(old, b impl.GateBook) string {
+	return changedLines(allLinesOf(old), allLinesOf(b))
+}
+
+// changedLines tells which lines go and which come.
+func changedLines(old, lines []string) string {
 	var out []string
-	for _, line := range allLinesOf(old) {
-		if !slices.Contains(allLinesOf(b), line) {
+	for _, line := range old {
+		if !slices.Contains(lines, line) {
 			out = append(out, "- "+line)
 		}
 	}
-	for _, line := range allLinesOf(b) {
-		if !slices.Contains(allLinesOf(old), line) {
+	for _, line := range lines {
+		if !slices.Contains(old, line) {
 			out = append(out, "+ "+line)
 		}
 	}

@@ -163,6 +163,7 @@ func (c chance) drawnBook() (impl.GateLaw, impl.GateBook) {
 
 // Promise 5: behind drawn rows of calls a book that was ok is ok, and each answer is as the document says.
 func TestPursesAsSaid(t *testing.T) {
+	t.Parallel()
 	c := chance{rand.New(rand.NewSource(8))}
 	seen := map[string]int{}
 	for range 500 {
@@ -227,6 +228,7 @@ type drawn struct{ amount, tick int }
 
 // Promise 6: a purse has all that was drawn into it, until it is given back or has run out; then Free has it.
 func TestPursesComeBack(t *testing.T) {
+	t.Parallel()
 	c := chance{rand.New(rand.NewSource(9))}
 	seen := map[string]int{}
 	for range 200 {

@@ -54,18 +54,7 @@ func linesOf(b impl.GateBook) []string {
 
 // changesOf tells which lines are not in both books.
 func changesOf(old, b impl.GateBook) string {
-	var out []string
-	for _, line := range linesOf(old) {
-		if !slices.Contains(linesOf(b), line) {
-			out = append(out, "- "+line)
-		}
-	}
-	for _, line := range linesOf(b) {
-		if !slices.Contains(linesOf(old), line) {
-			out = append(out, "+ "+line)
-		}
-	}
-	return strings.Join(out, "; ")
+	return changedLines(linesOf(old), linesOf(b))
 }
 
 // tryPurses also asks that the book stays ok and nothing else of it changes, and that with a code it is as it was.

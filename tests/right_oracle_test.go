@@ -181,6 +181,7 @@ func allowedByOne(teams []impl.GateTeam, rules []impl.GateRule, a impl.GateAct) 
 }
 
 func TestRightsAsSaid(t *testing.T) {
+	t.Parallel()
 	c := chance{rand.New(rand.NewSource(4))}
 	seen := map[string]int{}
 	for range 60000 {
@@ -248,6 +249,7 @@ func (c chance) drawnRights(most int) ([]impl.GateTeam, []impl.GateRule) {
 
 // Promise 3: a covered rule allows nothing that none of the rules does; of one that is not covered, the act that is told tells them apart.
 func TestCoversIsSoundAndWhole(t *testing.T) {
+	t.Parallel()
 	c := chance{rand.New(rand.NewSource(5))}
 	seen := map[string]int{}
 	for range 1500 {
@@ -292,6 +294,7 @@ func TestCoversIsSoundAndWhole(t *testing.T) {
 
 // Promise 3: what is covered by rules that are covered is covered.
 func TestCoversLeadsOn(t *testing.T) {
+	t.Parallel()
 	c := chance{rand.New(rand.NewSource(6))}
 	seen := map[string]int{}
 	for range 60000 {

@@ -88,6 +88,7 @@ func (c chance) spoilSlip(b impl.GateBook, s impl.GateSlip) impl.GateSlip {
 }
 
 func TestSlipsAsSaid(t *testing.T) {
+	t.Parallel()
 	c := chance{rand.New(rand.NewSource(15))}
 	seen := map[string]int{}
 	for range 800 {
@@ -159,6 +160,7 @@ type late struct {
 
 // Promise 11: slips of all views of a history, committed behind anything that may happen to a book.
 func TestLateSlips(t *testing.T) {
+	t.Parallel()
 	c := chance{rand.New(rand.NewSource(16))}
 	seen := map[string]int{}
 	for range 700 {
